@@ -1,0 +1,1 @@
+"""Crosstable: tables of whole numbers, brought to one diagonal."""
