@@ -14,13 +14,14 @@ def first_place(row):
 
 
 # The stairs are the rows at the top of the walk's table, as many as there are steps;
-# a step is the place where its row begins.
+# a step is the place where its row begins. The steps are given back.
 def build_stairs(walk):
     steps = []
     for low in range(len(walk.rows)):
         take_in(walk, steps, low)
         for top in range(len(steps) - 1, -1, -1):
             lessen_row(walk, steps, top, top + 1)
+    return steps
 
 
 def take_in(walk, steps, low):

@@ -12,15 +12,11 @@ from tests.tools import (
     determinant,
     diagonal_by_minors,
     diagonal_faults,
-    product,
     seeded_changes,
     seeded_table,
     table_of,
+    with_multiples,
 )
-
-
-def with_multiples(source, height, width, rank, bound):
-    return product(seeded_table(source, height, rank, bound), seeded_table(source, rank, width, bound))
 
 
 class BroughtCase(unittest.TestCase):

@@ -2,6 +2,9 @@ import unittest
 
 from crosstable import errors
 from crosstable.diagonal import brought
+from crosstable.kin import road
+from crosstable.notes import read
+from crosstable.sums import how_many, how_often
 from crosstable.tables import changed
 
 REFUSALS = ("BadTable", "BadChange", "NoRoad", "BadRow", "BadNumber", "NoLine")
@@ -26,10 +29,18 @@ class ErrorsTest(unittest.TestCase):
                     self.assertFalse(issubclass(one, two))
 
     def test_what_is_raised_is_a_table_error(self):
-        with self.assertRaises(errors.TableError):
-            brought([])
-        with self.assertRaises(errors.TableError):
-            changed([[1]], ("turn", "row", 1))
+        for name, refused in (
+            ("BadTable", lambda: brought([])),
+            ("BadChange", lambda: changed([[1]], ("turn", "row", 1))),
+            ("NoRoad", lambda: road([[1]], [[2]])),
+            ("BadRow", lambda: how_often([[1]], [1, 2])),
+            ("BadNumber", lambda: how_many([[1]], 0)),
+            ("NoLine", lambda: read("turn row 01")),
+        ):
+            with self.subTest(name):
+                with self.assertRaises(errors.TableError) as met:
+                    refused()
+                self.assertIs(type(met.exception), getattr(errors, name))
 
 
 if __name__ == "__main__":

@@ -139,6 +139,34 @@ class LanguageTest(unittest.TestCase):
                         if isinstance(sign, (ast.Is, ast.IsNot)):
                             self.assertIn(getattr(side, "value", 0), (None, True, False))
 
+    def test_numbers_and_texts(self):
+        for path, tree in each_tree():
+            for node in ast.walk(tree):
+                if isinstance(node, ast.BinOp) and isinstance(node.op, ast.Pow):
+                    self.assertIn(getattr(node.right, "value", None), range(65))
+                if isinstance(node, ast.Constant) and isinstance(node.value, str):
+                    self.assertNotIn("%", node.value)
+                if isinstance(node, ast.Constant) and isinstance(node.value, int):
+                    self.assertLess(node.value, 10**900)
+
+    def test_top_of_a_file(self):
+        for path, tree in each_tree():
+            bound = []
+            for node in tree.body:
+                if isinstance(node, ast.Assign):
+                    bound.append(node.targets[0].id)
+                    value = ast.literal_eval(node.value)
+                    parts = value.values() if isinstance(value, dict) else value
+                    if not isinstance(value, (int, str)):
+                        self.assertFalse(any(isinstance(part, (list, dict)) for part in parts))
+                elif isinstance(node, (ast.FunctionDef, ast.ClassDef)):
+                    bound.append(node.name)
+                elif isinstance(node, ast.ImportFrom):
+                    bound += [alias.asname or alias.name for alias in node.names]
+                else:
+                    self.assertIs(node, tree.body[0])
+            self.assertEqual(len(bound), len(set(bound)))
+
     def test_functions_and_classes(self):
         for path, tree in each_tree():
             for node in ast.walk(tree):
@@ -168,8 +196,6 @@ class LanguageTest(unittest.TestCase):
             for node in ast.walk(tree):
                 if isinstance(node, ast.Name):
                     self.assertIn(node.id, known)
-            top = [n.name for n in tree.body if isinstance(n, (ast.FunctionDef, ast.ClassDef))]
-            self.assertEqual(len(top), len(set(top)))
 
     def test_methods(self):
         own, values = set(), set()

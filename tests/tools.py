@@ -45,6 +45,16 @@ def product(one, two):
     return [[sum(a * b for a, b in zip(row, column)) for column in columns] for row in one]
 
 
+def with_multiples(source, height, width, rank, bound):
+    """Of the rows, and of the columns, as many as the rank tells are no sums of others."""
+    return product(seeded_table(source, height, rank, bound), seeded_table(source, rank, width, bound))
+
+
+def summed(table, times):
+    """The rows of the table, each taken as often as told, added up number by number."""
+    return [sum(often * row[column] for often, row in zip(times, table)) for column in range(len(table[0]))]
+
+
 def unit_table(size):
     return [[int(row == column) for column in range(size)] for row in range(size)]
 
